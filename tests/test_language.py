@@ -1,4 +1,9 @@
-"""The rules of ../shared/LANGUAGE.md that a look at the package's source can tell."""
+"""Some of the rules of ../shared/LANGUAGE.md, held against the package's source.
+
+Looked at, in the main: L1, L2, L6 to L8, L10, L12, L14, L16, L17, L25, L26.
+Not looked at: L11, L13, L19 to L24, L27, L28, most of L15 and L18. A pass here
+is not a pass of the whole document.
+"""
 
 import ast
 import builtins
