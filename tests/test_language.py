@@ -1,8 +1,9 @@
 """Some of the rules of ../shared/LANGUAGE.md, held against the package's source.
 
-Looked at, in the main: L1, L2, L6 to L8, L10, L12, L14, L16, L17, L25, L26.
-Not looked at: L11, L13, L19 to L24, L27, L28, most of L15 and L18. A pass here
-is not a pass of the whole document.
+Looked at, in the main: L1, L2, L6 to L8, L10, L12, L14, L16, L17, L20, L21,
+L25, L26; more narrowly than they're told, L19, L24 and L27; in part, L15, L23
+and L28. Not looked at: L11, L13, L22, most of L18. A pass here is not a pass of
+the whole document.
 """
 
 import ast
@@ -32,6 +33,7 @@ BARRED_NAMES = set("""register mro elements open input version_info with_traceba
 BARRED_WORDS = re.compile(r"\b(type|typing|typing_extensions|enum|Enum|IntEnum|StrEnum|Flag|IntFlag|Generic|Protocol"
                           r"|ABC|ABCMeta|namedtuple|NamedTuple|TypedDict|TYPE_CHECKING|abstractmethod)\b"
                           r"|dataclass|overload|contextmanager")
+WALKERS = set("list tuple dict sorted sum any all enumerate zip min max".split())
 BUILTINS = {name for name in dir(builtins) if not name.startswith("__")}
 BUILTIN_VALUES = ("", 0, [], (), {}, set(), b"")
 OWN_VALUES = set("count index title find get join lower upper split strip copy add".split())
@@ -41,8 +43,11 @@ def tree_of(path):
     return ast.parse(path.read_text(encoding="utf-8"))
 
 
+TREES = [(path, tree_of(path)) for path in FILES]
+
+
 def nodes_of(kind):
-    return [(path, node) for path in FILES for node in ast.walk(tree_of(path)) if isinstance(node, kind)]
+    return [(path, node) for path, tree in TREES for node in ast.walk(tree) if isinstance(node, kind)]
 
 
 def own_methods():
@@ -140,6 +145,59 @@ class Language(unittest.TestCase):
                 self.assertFalse(taken and node.attr not in OWN_VALUES, (path, node.attr))
         for name in methods - DUNDER_METHODS - METHODS - {"add", "discard"}:
             self.assertFalse(any(hasattr(value, name) for value in BUILTIN_VALUES), name)
+
+    def test_locals_are_not_called_like_classes_or_imports(self):
+        for path in FILES:
+            body = tree_of(path).body
+            taken = {name for node in body if isinstance(node, (ast.ClassDef, ast.ImportFrom))
+                     for name in top_names(node)}
+            for node in body:
+                for inner in (node.body if isinstance(node, ast.ClassDef) else [node]):
+                    if isinstance(inner, ast.FunctionDef):
+                        self.assertEqual(taken & (set(stored_names(inner)) - {inner.name}), set(), path)
+
+    def test_errors(self):
+        own = {node.name for _, node in nodes_of(ast.ClassDef)}
+        for path, node in nodes_of(ast.ExceptHandler):
+            self.assertIn(getattr(node.type, "id", None), own, (path, node.lineno))
+        for path, node in nodes_of(ast.Raise):
+            self.assertIsInstance(node.exc, ast.Call, (path, node.lineno))
+            self.assertIn(node.exc.func.id, own, (path, node.lineno))
+        for path, node in nodes_of(ast.Try):
+            self.assertEqual(node.finalbody, [], (path, node.lineno))
+
+    def test_is_and_annotations(self):
+        for path, node in nodes_of(ast.Compare):
+            for operator, right in zip(node.ops, node.comparators):
+                if isinstance(operator, (ast.Is, ast.IsNot)):
+                    self.assertIsInstance(right, ast.Constant, (path, node.lineno))
+                    self.assertIn(right.value, (None, True, False), (path, node.lineno))
+        for path, node in nodes_of((ast.arg, ast.FunctionDef)):
+            self.assertIsNone(getattr(node, "annotation", None), (path, node.lineno))
+            self.assertIsNone(getattr(node, "returns", None), (path, node.lineno))
+
+    def test_walked_at_once(self):
+        walked = {id(one) for _, node in nodes_of((ast.For, ast.comprehension)) for one in [node.iter]}
+        walked |= {id(one) for _, node in nodes_of(ast.Call) if getattr(node.func, "id", "") in WALKERS
+                   for one in node.args[:1]}
+        for path, node in nodes_of(ast.Call):
+            name = getattr(node.func, "id", "") or getattr(node.func, "attr", "")
+            if name in ("zip", "enumerate", "reversed", "range", "items", "keys", "values"):
+                self.assertIn(id(node), walked, (path, node.lineno))
+
+    def test_no_sets_and_no_powers(self):
+        for path, node in nodes_of(ast.Name):
+            self.assertNotIn(node.id, ("set", "frozenset", "chr"), (path, node.lineno))
+        for path, node in nodes_of(ast.BinOp):
+            self.assertNotIsInstance(node.op, ast.Pow, (path, node.lineno))
+        for path, node in nodes_of(ast.Constant):
+            if isinstance(node.value, str):
+                self.assertNotIn("%", node.value, (path, node.lineno))
+
+    def test_beginnings_of_objects_give_nothing_back(self):
+        for path, node in nodes_of(ast.FunctionDef):
+            if node.name == "__init__":
+                self.assertFalse(any(isinstance(inner, ast.Return) for inner in ast.walk(node)), path)
 
     def test_the_top_of_a_file(self):
         for path in FILES:

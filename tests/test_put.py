@@ -81,7 +81,7 @@ class PutIntoAFullIndex(unittest.TestCase):
 
     def filled(self, unique, how_many):
         index = Index()
-        index.restart(unique)
+        index.restart(unique, [])
         for number in range(how_many):
             self.assertEqual(index.put(number, (number // 256, number % 256)), 0)
         return index
